@@ -105,9 +105,11 @@ func All(n Node) []Decl {
 
 // Named: one of them; false: there is none.
 func Named(n Node, name string) (Decl, bool) {
-	for _, d := range All(n) {
-		if d.Name == name {
-			return d, true
+	for _, l := range [...][]Decl{n.Ins, n.Outs, n.Vars} { // not All, which copies: this is asked often
+		for _, d := range l {
+			if d.Name == name {
+				return d, true
+			}
 		}
 	}
 	return Decl{}, false
