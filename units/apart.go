@@ -1,4 +1,6 @@
-package code
+// Package units is what the layers share that let a unit of layer 8 go on: a unit apart from others, and what
+// stands at its places.
+package units
 
 import (
 	"slices"
@@ -6,8 +8,8 @@ import (
 	"girandole/flat"
 )
 
-// apart: a unit that shares no list with the one of which it is made.
-func apart(u *flat.Unit) *flat.Unit {
+// Apart: a unit that shares no list with the one of which it is made.
+func Apart(u *flat.Unit) *flat.Unit {
 	c := *u
 	c.Ins, c.Outs = slices.Clone(u.Ins), slices.Clone(u.Outs)
 	c.Eqs, c.Mems = slices.Clone(u.Eqs), slices.Clone(u.Mems)
